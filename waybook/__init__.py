@@ -1,0 +1,1 @@
+"""Waybook: a table that keeps several orders and asks by the cheapest."""
